@@ -1,0 +1,1 @@
+"""Holds the files of the package against the rules of LANGUAGE.md."""

@@ -1,0 +1,1 @@
+"""Expanders that read again what they put in front."""
