@@ -1,6 +1,6 @@
 """Expanders: what they are, how they are made, and their moves."""
 
-from rescans.errors import NoCall, NoExpander
+from rescans.errors import Mismatch, NoCall, NoExpander
 from rescans.words import is_word
 
 LETTERS = "abcdefghijklmnopqrstuvwxyz"
@@ -41,9 +41,7 @@ def mover(expander, state, sign):
     """The move for a call, or None; raises NoCall if state and sign are no call."""
     need_expander(expander)
     need_call(expander, state, sign)
-    signs, _, states = expander
-    moves = states[state][0]
-    return moves[signs.index(sign)]
+    return move_of(expander, state, sign)
 
 
 def copier(signs):
@@ -54,11 +52,35 @@ def copier(signs):
     return (signs, "", ((moves, ""),))
 
 
+def need_pair(one, other):
+    """Raises NoExpander if one of any two objects is no expander, then Mismatch if they have not the same signs."""
+    need_expander(one)
+    need_expander(other)
+    if one[0] != other[0]:
+        raise Mismatch("the expanders have not the same signs")
+
+
 def need_call(expander, state, sign):
     """Raises NoCall if any objects are no state and sign of an expander."""
-    signs, _, states = expander
-    if not _is_state_number(len(states), state) or not _is_sign(signs, sign):
+    if not is_call(expander, state, sign):
         raise NoCall("this is no call of the expander")
+
+
+def is_call(expander, state, sign):
+    """Whether any objects are a state and a sign of an expander."""
+    signs, _, states = expander
+    return is_number(len(states), state) and _is_sign(signs, sign)
+
+
+def is_number(many, thing):
+    """Whether any object is an integer from 0 on below many."""
+    # True and False are ints in Python, but no integers of the document.
+    return isinstance(thing, int) and not isinstance(thing, bool) and 0 <= thing < many
+
+
+def move_of(expander, state, sign):
+    """The move for what is a call, or None."""
+    return expander[2][state][0][expander[0].index(sign)]
 
 
 def _are_signs(thing):
@@ -74,11 +96,6 @@ def _is_sign(signs, thing):
 
 def _is_short_word(signs, thing):
     return is_word(signs, thing) and len(thing) <= MOST_WORD
-
-
-def _is_state_number(many, thing):
-    # True and False are ints in Python, but no integers of the document.
-    return isinstance(thing, int) and not isinstance(thing, bool) and 0 <= thing < many
 
 
 def _are_states(signs, thing):
@@ -104,4 +121,4 @@ def _is_move(signs, many, thing):
     done, back, goal = thing
     if not _is_short_word(signs, done) or not _is_short_word(signs, back):
         return False
-    return _is_state_number(many, goal)
+    return is_number(many, goal)

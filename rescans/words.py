@@ -1,5 +1,7 @@
 """Words and texts: strings of signs."""
 
+from rescans.errors import NoText
+
 MOST_TEXT = 200
 
 
@@ -14,6 +16,12 @@ def is_text(signs, thing):
     return is_word(signs, thing) and len(thing) <= MOST_TEXT
 
 
+def need_text(signs, thing):
+    """Raises NoText if any object is no text of the signs."""
+    if not is_text(signs, thing):
+        raise NoText("this is no text of the signs")
+
+
 def common(one, other):
     """The longest string with which both begin."""
     # The begins of states can be long, so halves are compared and not characters.
@@ -26,3 +34,9 @@ def common(one, other):
         else:
             high = middle - 1
     return one[:low]
+
+
+def left_of(one, other):
+    """What is left of both without their longest common beginning."""
+    many = len(common(one, other))
+    return (one[many:], other[many:])

@@ -46,3 +46,32 @@ def replaced(thing, place, new):
     parts = list(thing)
     parts[place[0]] = replaced(parts[place[0]], place[1:], new)
     return tuple(parts)
+
+
+def ladder(many, word=""):
+    """An expander whose call (0, "a") takes more than 3 ** (many - 1) steps; it does word at the last one of each row.
+
+    A state's "a" is read three times in the next state, and "r" goes back to the state ahead.
+    """
+    states = []
+    for state in range(many):
+        back = ("", "aaar", state + 1) if state + 1 < many else ("", "", state)
+        states.append(((back, (word, "", max(0, state - 1))), ""))
+    return "ar", "", tuple(states)
+
+
+def chain(many, end):
+    """An expander of so many states of four signs: each call's back is the next call, the last one's move is end."""
+    signs = "abcd"
+    states = []
+    for state in range(many):
+        moves = [("", "b", state), ("", "c", state), ("", "d", state), ("", "a", state + 1)]
+        if state == many - 1:
+            moves[3] = end
+        states.append((tuple(moves), ""))
+    return signs, "", tuple(states)
+
+
+def of_size(size, *, last=""):
+    """An expander whose call (0, "a") has a value of so many signs, from 1,000 to 3,000, put together of two words."""
+    return "ab", "", (((("a" * 1000, "b", 0), ("b" * (size - 1000), "", 0)), last),)
