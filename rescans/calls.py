@@ -26,7 +26,7 @@ def values(expander):
     """The dict from all calls to their values, None for a call without one."""
     need_expander(expander)
     found = values_of(expander)
-    return {call: found.get(call) for call in _calls_of(expander)}
+    return {call: found.get(call) for call in all_calls(expander)}
 
 
 def shows_thread(expander, thing):
@@ -51,20 +51,7 @@ def outcome(expander, text):
     """The outcome of a text; raises NoOutcome if it has none."""
     need_expander(expander)
     need_text(expander[0], text)
-    found = values_of(expander)
-    parts = [expander[1]]
-    state = 0
-    for sign in text:
-        _need_value(expander, found, (state, sign))
-        word, state = found[(state, sign)]
-        parts.append(word)
-    last = expander[2][state][1]
-    if last is None:
-        raise NoOutcome("last", [])
-    told = "".join(parts) + last
-    if len(told) > MOST_WORD:
-        raise TooMany(MOST_WORD)
-    return told
+    return "".join(words_of_text(expander, values_of(expander), text))
 
 
 def ends_always(expander):
@@ -75,6 +62,32 @@ def ends_always(expander):
     return all([last is not None and None not in moves for moves, last in reached])
 
 
+def words_of_text(expander, found, text):
+    """The words that the outcome of a text is made of: first, that of each sign, and last; found is as of values_of."""
+    calls, last = calls_of_text(expander, found, text)
+    words = [expander[1]] + [found[call][0] for call in calls] + [last]
+    if sum([len(word) for word in words]) > MOST_WORD:
+        raise TooMany(MOST_WORD)
+    return words
+
+
+def calls_of_text(expander, found, text):
+    """The calls of the signs of a text, and the last behind them; raises NoOutcome if the text has no outcome.
+
+    The dict found is as that of values_of, or of sizes_of.
+    """
+    calls = []
+    state = 0
+    for sign in text:
+        _need_value(expander, found, (state, sign))
+        calls.append((state, sign))
+        state = found[(state, sign)][1]
+    last = expander[2][state][1]
+    if last is None:
+        raise NoOutcome("last", [])
+    return (calls, last)
+
+
 def sizes_of(expander):
     """The dict from the calls that have a value to (number of its word's signs, state).
 
@@ -82,24 +95,35 @@ def sizes_of(expander):
     """
     found = {}
     opened = {}
-    for call in _calls_of(expander):
+    for call in all_calls(expander):
         _measure(expander, found, opened, call)
     return found
 
 
 def values_of(expander):
-    """The dict from the calls that have a value to it; raises TooMany(2000) if a word of one is longer."""
+    """The dict from the calls that have a value to it, in the order of sizes_of.
+
+    Raises TooMany(2000) if a word of one is longer.
+    """
     sizes = sizes_of(expander)
     if any([size > MOST_WORD for size, _ in sizes.values()]):
         raise TooMany(MOST_WORD)
+    return short_values(expander, sizes)
+
+
+def short_values(expander, sizes):
+    """The dict from calls to their values, in the order of sizes_of, without those that are too long for a word."""
     found = {}
-    for state, sign in sizes:
-        done, back, goal = move_of(expander, state, sign)
+    for call, (size, _) in sizes.items():
+        if size > MOST_WORD:
+            continue
+        # None of those that it is put together of is longer, so all of them are found.
+        done, back, goal = move_of(expander, call[0], call[1])
         parts = [done]
         for inner in back:
             word, goal = found[(goal, inner)]
             parts.append(word)
-        found[(state, sign)] = ("".join(parts), goal)
+        found[call] = ("".join(parts), goal)
     return found
 
 
@@ -121,7 +145,8 @@ def _plain_move(told):
     return (word, "", goal)
 
 
-def _calls_of(expander):
+def all_calls(expander):
+    """The ascending list of the calls of an expander."""
     signs, _, states = expander
     return [(state, sign) for state in range(len(states)) for sign in signs]
 

@@ -69,13 +69,24 @@ def need_call(expander, state, sign):
 def is_call(expander, state, sign):
     """Whether any objects are a state and a sign of an expander."""
     signs, _, states = expander
-    return is_number(len(states), state) and _is_sign(signs, sign)
+    return is_number(len(states), state) and is_sign(signs, sign)
+
+
+def is_sign(signs, thing):
+    """Whether any object is one of the signs."""
+    # A longer string, and the empty one, can stand in signs, too.
+    return isinstance(thing, str) and len(thing) == 1 and thing in signs
 
 
 def is_number(many, thing):
     """Whether any object is an integer from 0 on below many."""
+    return is_whole(thing) and 0 <= thing < many
+
+
+def is_whole(thing):
+    """Whether any object is an integer."""
     # True and False are ints in Python, but no integers of the document.
-    return isinstance(thing, int) and not isinstance(thing, bool) and 0 <= thing < many
+    return isinstance(thing, int) and not isinstance(thing, bool)
 
 
 def move_of(expander, state, sign):
@@ -87,11 +98,6 @@ def _are_signs(thing):
     if not is_word(LETTERS, thing) or not 1 <= len(thing) <= MOST_SIGNS:
         return False
     return list(thing) == sorted(set(thing))
-
-
-def _is_sign(signs, thing):
-    # A longer string, and the empty one, can stand in signs, too.
-    return isinstance(thing, str) and len(thing) == 1 and thing in signs
 
 
 def _is_short_word(signs, thing):

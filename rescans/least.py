@@ -47,10 +47,15 @@ def least_of(plain):
     signs, first, states = plain
     live = live_of(states)
     if 0 not in live:
-        return (signs, "", (((None,) * len(signs), None),))
+        return without_outcomes(signs)
     found = begins_of(states)
     early = {state: _early(found, states[state], found[state]) for state in reached_of(states) if state in found}
     return (signs, first + found[0], _told_in_order(early, _classes(early)))
+
+
+def without_outcomes(signs):
+    """The least form of all expanders in which no text has an outcome."""
+    return (signs, "", (((None,) * len(signs), None),))
 
 
 def longest_word(plain):

@@ -266,3 +266,22 @@ def otherwise(chance, plain, turns):
     if chance.random() < 0.5:
         plain = by_steps(chance, plain)
     return plain
+
+
+def outcome_by(plain, text):
+    """The outcome of a text of any length by a plain expander, or None."""
+    signs, done, states = plain
+    state = 0
+    for sign in text:
+        move = states[state][0][signs.index(sign)]
+        if move is None:
+            return None
+        done, state = done + move[0], move[2]
+    last = states[state][1]
+    return None if last is None else done + last
+
+
+def outcomes_behind(one, other, most):
+    """The outcomes by a plain expander behind another one, of all texts with at most so many signs."""
+    found = {text: outcome_by(other, word) for text, word in outcomes(one, most).items()}
+    return {text: word for text, word in found.items() if word is not None}

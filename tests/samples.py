@@ -1,4 +1,6 @@
-"""Expanders and other objects that several tests take."""
+"""Expanders and other objects that several tests take, and what they raise."""
+
+from rescans.errors import NoOutcome, TooMany
 
 DOUBLE = ("ab", "", (((("", "bb", 0), ("b", "", 0)), ""),))
 LOOP = ("ab", "", (((("", "ba", 0), ("b", "", 0)), ""),))
@@ -17,6 +19,25 @@ ODD = [
     ("ab", "", ()), ["ab", "", []], {"ab": "", 0: {}}, ((((),),),), [[[]]], {"signs": "ab", "first": "", "states": ()},
     (True, False, None), ("ab", "", None), (("a", "", 0),), [("a", "", 0)], (((None,), None),),
 ]
+
+
+def limit(function, *arguments):
+    """The limit of TooMany, or None if it is not raised."""
+    try:
+        function(*arguments)
+    except TooMany as error:
+        return error.limit
+    return None
+
+
+def thrown(function, *arguments, **more):
+    """What kind and thread NoOutcome has, or the limit of TooMany, or what is returned."""
+    try:
+        return function(*arguments, **more)
+    except NoOutcome as error:
+        return error.kind, error.thread
+    except TooMany as error:
+        return error.limit
 
 
 def state_of(many):
@@ -75,3 +96,6 @@ def chain(many, end):
 def of_size(size, *, last=""):
     """An expander whose call (0, "a") has a value of so many signs, from 1,000 to 3,000, put together of two words."""
     return "ab", "", (((("a" * 1000, "b", 0), ("b" * (size - 1000), "", 0)), last),)
+
+
+NO_EXPANDERS = ODD + [list(DOUBLE), DOUBLE + ("",), replaced(DOUBLE, (2, 0, 0, 0, 2), True), "ab", ""]

@@ -6,11 +6,13 @@ import unittest
 
 from rescans.alike import ahead, alike, apart, shows_alike
 from rescans.calls import plain
-from rescans.errors import Mismatch, NoExpander, TooMany
+from rescans.errors import Mismatch, NoExpander
 from rescans.expanders import copier, is_expander
 from rescans.least import least
 from plainly import drawn, first_apart, longest_begin, otherwise, outcomes, run_plain, run_values
-from samples import AHEAD, DOUBLE, EXPANDERS, FOUR, LOOP, ODD, STUCK, SWAP, TOWER, of_size, places, replaced
+from samples import (
+    AHEAD, DOUBLE, EXPANDERS, FOUR, LOOP, NO_EXPANDERS, ODD, STUCK, SWAP, TOWER, limit, of_size, places, replaced,
+)
 
 LATE = ("ab", "", (((("", "", 1), None), ""), ((("a", "", 1), None), "a")))
 EARLY = ("ab", "", (((("a", "", 0), None), ""),))
@@ -23,15 +25,6 @@ def shows_none(one, other):
 
 
 WITH_TWO = [alike, ahead, shows_none, apart]
-
-
-def limit(function, *arguments):
-    """The limit of TooMany, or None if it is not raised."""
-    try:
-        function(*arguments)
-    except TooMany as error:
-        return error.limit
-    return None
 
 
 def left_of(one, other):
@@ -421,7 +414,7 @@ class LimitTest(unittest.TestCase):
 
 class ArgumentsTest(unittest.TestCase):
     def test_what_is_no_expander(self):
-        for thing in ODD + [list(DOUBLE), DOUBLE + ("",), replaced(DOUBLE, (2, 0, 0, 0, 2), True), "ab", ""]:
+        for thing in NO_EXPANDERS:
             for function in WITH_TWO:
                 kept = copy.deepcopy(thing)
                 with self.subTest(thing=thing, function=function.__name__):

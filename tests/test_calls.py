@@ -5,11 +5,11 @@ import random
 import unittest
 
 from rescans.calls import ends_always, outcome, plain, shows_thread, thread, value, values
-from rescans.errors import NoCall, NoExpander, NoOutcome, NoText, TooMany
+from rescans.errors import NoCall, NoExpander, NoText
 from rescans.expanders import is_expander, is_plain
 from plainly import drawn, outcomes, run_plain, run_thread, run_values, sizes_by_rounds, texts
 from samples import (
-    AHEAD, DOUBLE, EXPANDERS, FOUR, LOOP, ODD, STUCK, SWAP, TOWER, chain, ladder, of_size, places, replaced,
+    AHEAD, DOUBLE, EXPANDERS, FOUR, LOOP, NO_EXPANDERS, ODD, STUCK, SWAP, TOWER, chain, ladder, of_size, places, thrown,
 )
 
 WITH_EXPANDER = [
@@ -17,16 +17,6 @@ WITH_EXPANDER = [
     lambda one: shows_thread(one, [(0, one[0][0])]), lambda one: shows_thread(one, None), plain,
     lambda one: outcome(one, ""), ends_always,
 ]
-
-
-def thrown(function, *arguments):
-    """What kind and thread NoOutcome has, or the limit of TooMany, or what is returned."""
-    try:
-        return function(*arguments)
-    except NoOutcome as error:
-        return error.kind, error.thread
-    except TooMany as error:
-        return error.limit
 
 
 def drawn_ones(seed, many):
@@ -89,7 +79,7 @@ class ValueTest(unittest.TestCase):
         self.assertRaises(NoCall, thread, of_size(2001), 0, "c")
 
     def test_no_expander_comes_first(self):
-        for thing in ODD + [list(DOUBLE), DOUBLE + ("",), replaced(DOUBLE, (2, 0, 0, 0, 2), True)]:
+        for thing in NO_EXPANDERS:
             with self.subTest(thing=thing):
                 self.assertRaises(NoExpander, value, thing, None, None)
                 self.assertRaises(NoExpander, thread, thing, None, None)

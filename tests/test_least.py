@@ -5,26 +5,17 @@ import random
 import unittest
 
 from rescans.calls import outcome, plain
-from rescans.errors import NoExpander, TooMany
+from rescans.errors import NoExpander
 from rescans.expanders import copier, is_expander, is_plain
 from rescans.least import begins, is_least, least, live_states, reached_states
 from plainly import (
     done_later, drawn, least_by_outcomes, longest_begin, otherwise, outcomes, renumbered, run_plain, run_values,
     told_twice, with_dead, with_unreached,
 )
-from samples import AHEAD, DOUBLE, EXPANDERS, FOUR, LOOP, ODD, STUCK, SWAP, TOWER, of_size, replaced
+from samples import AHEAD, DOUBLE, EXPANDERS, FOUR, LOOP, NO_EXPANDERS, STUCK, SWAP, TOWER, limit, of_size
 
 WITH_EXPANDER = [live_states, reached_states, begins, least, is_least]
 NOTHING = ((None, None), None)
-
-
-def limit(function, *arguments):
-    """The limit of TooMany, or None if it is not raised."""
-    try:
-        function(*arguments)
-    except TooMany as error:
-        return error.limit
-    return None
 
 
 def drawn_ones(seed, many):
@@ -301,7 +292,7 @@ def words_of(expander):
 
 class ArgumentsTest(unittest.TestCase):
     def test_what_is_no_expander(self):
-        for thing in ODD + [list(DOUBLE), DOUBLE + ("",), replaced(DOUBLE, (2, 0, 0, 0, 2), True), "ab", ""]:
+        for thing in NO_EXPANDERS:
             for function in WITH_EXPANDER:
                 with self.subTest(thing=thing, function=function.__name__):
                     kept = copy.deepcopy(thing)
