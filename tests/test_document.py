@@ -35,6 +35,36 @@ INTERFACE = {
         "alike": ["one", "other"], "ahead": ["one", "other"], "shows_alike": ["one", "other", "thing"],
         "apart": ["one", "other"],
     },
+    "rows": {
+        "behind": ["one", "other"], "settled": ["expander"], "unsettled": ["expander"],
+        "change_places": ["one", "other"], "in_row": ["row"],
+    },
+    "sources": {
+        "source": ["expander", "word"], "how_many": ["expander", "word"], "no_source": ["expander", "word"],
+        "shows_no_source": ["expander", "word", "thing"], "sources": ["expander", "word"],
+    },
+    "growth": {
+        "longest": ["expander", "size"], "rate": ["expander"], "rate_paper": ["expander"],
+        "shows_rate": ["expander", "thing"],
+    },
+    "origins": {
+        "origins": ["expander", "text"], "steps": ["expander", "text"], "held": ["expander", "text"],
+    },
+    "live": {
+        "Live": {
+            "__init__": ["expander", "text"], "expander": [], "text": [], "__len__": [], "__contains__": ["thing"],
+            "__eq__": ["other"], "outcome": [], "state_at": ["place"], "stuck": [], "do": ["edit"],
+            "all_done": ["edits"], "undo": [], "redo": [], "notes": [],
+        },
+    },
+    "texts": {
+        "parse_word": ["text"], "parse_expander": ["text"], "format_word": ["word"], "format_expander": ["expander"],
+    },
+    "console": {"Console": {"__init__": [], "execute": ["line"]}},
+    "windows": {
+        "sizes": ["expander"], "length": ["expander", "text"], "window": ["expander", "text", "start", "*many"],
+        "path": ["expander", "text", "at"],
+    },
 }
 
 EXAMPLES = '''
@@ -69,6 +99,53 @@ EXAMPLES = '''
 [False, 'b', True]
 >>> [ahead(LATE, ("ab", "", (((("a", "", 0), None), ""),))), ahead(LATE, copier("ab"))]
 [{(0, 0): ('', ''), (1, 0): ('', 'a')}, None]
+>>> from rescans.expanders import copier
+>>> from rescans.rows import behind, change_places, in_row, settled, unsettled
+>>> DOUBLE, SWAP = ("ab", "", (((("", "bb", 0), ("b", "", 0)), ""),)), ("ab", "", (((("b", "", 0), ("a", "", 0)), ""),))
+>>> [behind(SWAP, SWAP) == copier("ab"), behind(DOUBLE, SWAP), settled(DOUBLE), unsettled(SWAP), change_places(DOUBLE, SWAP)]
+[True, ('ab', '', (((('aa', '', 0), ('a', '', 0)), ''),)), True, 'a', False]
+>>> in_row([SWAP, SWAP, SWAP])
+('ab', '', (((('b', '', 0), ('a', '', 0)), ''),))
+>>> from rescans.sources import how_many, no_source, shows_no_source, source, sources
+>>> DOUBLE, DROP = ("ab", "", (((("", "bb", 0), ("b", "", 0)), ""),)), ("ab", "", (((("", "", 0), ("b", "", 0)), ""),))
+>>> [source(DOUBLE, "bbb"), how_many(DOUBLE, "bbb"), list(sources(DOUBLE, "bbb")), no_source(DOUBLE, "ba"), how_many(DROP, "b")]
+['ab', 3, ['ab', 'ba', 'bbb'], ((0, 0), (0, 1)), None]
+>>> [shows_no_source(DOUBLE, "ba", ((0, 0), (0, 1))), shows_no_source(DOUBLE, "b", ((0, 0),))]
+[True, False]
+>>> from rescans.growth import longest, rate, rate_paper, shows_rate
+>>> DOUBLE, HALF = ("ab", "", (((("", "bb", 0), ("b", "", 0)), ""),)), ("a", "", (((("", "", 1),), ""), ((("a", "", 0),), "")))
+>>> [longest(DOUBLE, 3), rate(DOUBLE), rate(HALF), rate(("a", "", (((None,), "a"),))), rate_paper(HALF)[3]]
+[(6, 'aaa'), (2, 1), (1, 2), None, {0: 0, 1: -1}]
+>>> shows_rate(DOUBLE, ((2, 1), "", "a", {0: 0}))
+True
+>>> from rescans.origins import held, origins, steps
+>>> DOUBLE, DROP = ("ab", "", (((("", "bb", 0), ("b", "", 0)), ""),)), ("ab", "", (((("", "", 0), ("b", "", 0)), "a"),))
+>>> [origins(DOUBLE, "ba"), steps(DOUBLE, "ba"), origins(DROP, "aba"), held(DROP, "aba")]
+[[0, 1, 1], 4, [1, 3], [0, 2]]
+>>> from rescans.live import Live
+>>> live = Live(("ab", "", (((("", "bb", 0), ("b", "", 0)), ""),)), "ab")
+>>> [live.outcome(), live.do(("put", 0, "a")), live.text, live.outcome(), live.state_at(3), live.undo(), live.text, len(live), "b" in live]
+['bbb', None, 'aab', 'bbbbb', 0, None, 'ab', 2, True]
+>>> [live.redo(), live.notes(), live.do(("drop", 2)), live.do(("set", 0, "b")), live.text, live.stuck(), live == Live(live.expander, "ba")]
+[None, [('put', 0, 'a')], None, None, 'ba', None, True]
+>>> from rescans.texts import format_expander, format_word, parse_expander, parse_word
+>>> parse_expander("ab .; . < bb > 0, b<.>0, . ;!, !,!")
+('ab', '', (((('', 'bb', 0), ('b', '', 0)), ''), ((None, None), None)))
+>>> [format_expander(("a", "aa", (((("a", "", 0),), ""), ((None,), None)))), parse_word(" . "), format_word("ab")]
+['a aa; a < . > 0, .; !, !', '', 'ab']
+>>> from rescans.console import Console
+>>> console = Console()
+>>> lines = ["keep x : ab .; . < bb > 0, b < . > 0, .", "run x : aba", "call x 0 a", "least x", "source x : bbb", "rate x", "settled x", "origins x : ba"]
+>>> [console.execute(line) for line in lines]
+['ok', 'bbbbb', 'bb 0', 'ab .; bb < . > 0, b < . > 0, .', 'ab', '2/1', 'yes', '0 1 1']
+>>> [console.execute(line) for line in ["keep y : ab .; b < . > 0, a < . > 0, .", "alike x y", "behind z x y", "names", "live y : ab", "put 0 b", "text", "outcome", "undo", "text"]]
+['ok', 'no : a', 'ok', 'x y z', 'ok', 'ok', 'bab', 'aba', 'ok', 'ab']
+>>> from rescans.windows import length, path, sizes, window
+>>> TOWER = ("ar", "", (((("", "aaar", 1), None), ""), ((("", "aaar", 2), ("", "", 0)), ""), ((("ar", "", 2), ("", "", 1)), "")))
+>>> [sizes(TOWER)[(0, "a")], sizes(TOWER)[(2, "a")], sizes(TOWER)[(0, "r")], length(TOWER, "aa"), window(TOWER, "aa", 15, many=4)]
+[(18, 0), (2, 2), None, 36, 'rara']
+>>> [path(TOWER, "aa", 20), window(TOWER, "a", 18)]
+[[(0, 'a'), (1, 'a'), (2, 'a')], '']
 '''
 
 
