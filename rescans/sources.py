@@ -135,11 +135,12 @@ def _useful(net, ends):
     known = {pair: True for pair in ends}
     waiting = list(ends)
     while waiting:
-        for one in before[waiting.pop()]:
+        pair = waiting.pop()
+        for one in before[pair]:
             if one not in known:
                 known[one] = True
                 waiting.append(one)
-    return {pair: [link for link in net[pair] if link[1] in known] for pair in net if pair in known}
+    return {one: [link for link in net[one] if link[1] in known] for one in net if one in known}
 
 
 def _ways_to(net):
