@@ -56,6 +56,11 @@ def need_pair(one, other):
     """Raises NoExpander if one of any two objects is no expander, then Mismatch if they have not the same signs."""
     need_expander(one)
     need_expander(other)
+    need_same_signs(one, other)
+
+
+def need_same_signs(one, other):
+    """Raises Mismatch if two expanders have not the same signs."""
     if one[0] != other[0]:
         raise Mismatch("the expanders have not the same signs")
 

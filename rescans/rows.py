@@ -2,7 +2,7 @@
 
 from rescans.alike import apart_of
 from rescans.errors import Mismatch, TooMany
-from rescans.expanders import MOST_STATES, MOST_WORD, need_expander, need_pair
+from rescans.expanders import MOST_STATES, MOST_WORD, need_expander, need_pair, need_same_signs
 from rescans.least import least, least_of, longest_word, without_outcomes
 from rescans.ways import is_begun, live_part
 
@@ -12,12 +12,7 @@ MOST_PAIRS = 400
 def behind(one, other):
     """The least form of other behind one; raises TooMany(400), (60) or (2000) if it is too large."""
     need_pair(one, other)
-    told = least_of(_joined(least(one), least(other)))
-    if longest_word(told) > MOST_WORD:
-        raise TooMany(MOST_WORD)
-    if len(told[2]) > MOST_STATES:
-        raise TooMany(MOST_STATES)
-    return told
+    return _behind(least(one), least(other))
 
 
 def settled(expander):
@@ -43,10 +38,24 @@ def in_row(row):
         raise Mismatch("this is no list of expanders")
     for thing in row:
         need_expander(thing)
-    told = row[0]
-    for other in row[1:]:
-        told = behind(told, other)
-    return least(told)
+    for thing in row:
+        need_same_signs(row[0], thing)
+    # What the values of any of them raise comes ahead of too many pairs or states in a step, so no step is done yet.
+    forms = [least(thing) for thing in row]
+    told = forms[0]
+    for other in forms[1:]:
+        told = _behind(told, other)
+    return told
+
+
+def _behind(one, other):
+    """The least form of other behind one, both least forms, as far as it is not too large."""
+    told = least_of(_joined(one, other))
+    if longest_word(told) > MOST_WORD:
+        raise TooMany(MOST_WORD)
+    if len(told[2]) > MOST_STATES:
+        raise TooMany(MOST_STATES)
+    return told
 
 
 def _joined(one, other):

@@ -51,6 +51,27 @@ def turning(many, signs, *, start=False):
     return signs, "", tuple(states)
 
 
+def round_by_b(many):
+    """An expander that goes round by "b", and copies "a" and "c"; one state has another last."""
+    states = tuple(((("a", "", state), ("", "", (state + 1) % many), ("c", "", state)), "a" if state else "")
+                   for state in range(many))
+    return "abc", "", states
+
+
+# It goes round by "b", and does nothing then: behind one that does no "a", all its states are one.
+DEAF = ("ab", "", tuple((((("a" if state else "b"), "", state), ("", "", (state + 1) % 20)), "")
+                        for state in range(20)))
+
+
+def copying(size, signs):
+    """An expander that copies each text; a call in a state that is not reached has a value of so many signs."""
+    rest = (None,) * (len(signs) - 1)
+    half = signs[0] * 1000
+    copies = copier(signs)[2][0][0]
+    return signs, "", ((copies, ""), (((half, signs[0], 2), *rest), ""),
+                       (((signs[0] * (size - 1000), "", 2), *rest), ""))
+
+
 class BehindTest(unittest.TestCase):
     def test_examples(self):
         self.assertEqual(behind(SWAP, SWAP), copier("ab"))
@@ -185,6 +206,9 @@ class ChangePlacesTest(unittest.TestCase):
 
 
 class InRowTest(unittest.TestCase):
+    MANY_PAIRS = [turning(20, "ab", start=True), DEAF]
+    MANY_STATES = [turning(6, "abc", start=True), round_by_b(10)]
+
     def test_rows(self):
         self.assertEqual(in_row([SWAP, SWAP, SWAP]), SWAP)
         self.assertEqual(in_row([DOUBLE]), least(DOUBLE))
@@ -233,13 +257,45 @@ class InRowTest(unittest.TestCase):
             self.assertRaises(NoExpander, in_row, [thing])
 
     def test_the_steps_raise_from_the_left(self):
-        large = turning(20, "ab", start=True)
-        self.assertRaises(Mismatch, in_row, [SWAP, SWAP, STUCK])
-        self.assertRaises(Mismatch, in_row, [STUCK, SWAP, SWAP])
-        self.assertEqual(limit(in_row, [large, turning(20, "ba"[::-1])]), limit(behind, large, turning(20, "ab")))
-        self.assertEqual(limit(in_row, [of_size(2001)]), 2000)
-        self.assertEqual(limit(in_row, [SWAP, SWAP, of_size(2001)]), 2000)
-        self.assertRaises(Mismatch, in_row, [of_size(2001), STUCK])
+        for told, row in [(400, self.MANY_PAIRS), (60, self.MANY_STATES)]:
+            signs = row[0][0]
+            doubled = (signs, "", (((("a" * 2000, "", 0), *copier(signs)[2][0][0][1:]), ""),))
+            for ahead in range(3):
+                self.assertEqual(limit(in_row, [copier(signs)] * ahead + row), told)
+            self.assertEqual(limit(in_row, row + [doubled, doubled]), told)
+            self.assertEqual(limit(in_row, [doubled, doubled] + row), 2000)
+
+    def test_unlike_signs_come_ahead_of_all_limits(self):
+        # A too long value, a too long word, 401 pairs, and 61 states: ahead of and behind the one with other signs.
+        for told, row in [(2000, [of_size(2001)]), (2000, [of_size(2001), SWAP]), (2000, [SWAP, SWAP, of_size(2001)]),
+                          (2000, [("ab", "a" * 1001, copier("ab")[2]), DOUBLE, SWAP]),
+                          (400, self.MANY_PAIRS), (400, [SWAP, SWAP, *self.MANY_PAIRS]), (60, self.MANY_STATES)]:
+            self.assertEqual(limit(in_row, row), told)
+            for other in (copier("a"), copier("abcd"), copying(2001, "b")):
+                for place in range(len(row) + 1):
+                    unlike = row[:place] + [other] + row[place:]
+                    kept = copy.deepcopy(unlike)
+                    self.assertRaises(Mismatch, in_row, unlike)
+                    self.assertRaises(NoExpander, in_row, unlike + [None])
+                    self.assertRaises(NoExpander, in_row, [()] + unlike)
+                    self.assertEqual(unlike, kept)
+
+    def test_long_values_come_ahead_of_pairs_and_states(self):
+        # Those of each expander of the row, also of one that only a later step reads.
+        for told, row in [(400, self.MANY_PAIRS), (60, self.MANY_STATES)]:
+            signs = row[0][0]
+            for place in range(len(row) + 1):
+                for size in (2000, 2001):
+                    longer = row[:place] + [copying(size, signs)] + row[place:]
+                    self.assertEqual(limit(in_row, longer), told if size == 2000 else 2000)
+            self.assertEqual(limit(in_row, row + [copier(signs)] * 3 + [copying(2001, signs)]), 2000)
+
+    def test_long_values_at_each_place(self):
+        for others in ([], [SWAP], [NOTHING], [NOTHING, NO_OUTCOME], [SWAP, copier("ab"), NOTHING]):
+            for place in range(len(others) + 1):
+                for size in (2000, 2001):
+                    row = others[:place] + [copying(size, "ab")] + others[place:]
+                    self.assertEqual(limit(in_row, row), None if size == 2000 else 2000)
 
     def test_what_is_handed_in_may_be_changed(self):
         row = [SWAP, DOUBLE]
@@ -251,33 +307,29 @@ class InRowTest(unittest.TestCase):
 class PairsTest(unittest.TestCase):
     """Pairs that come to 400 and 401, and least forms of 60 and 61 states."""
 
-    # It goes round by "b", and does nothing then: behind one that does no "a", all its states are one.
-    DEAF = ("ab", "", tuple((((("a" if state else "b"), "", state), ("", "", (state + 1) % 20)), "")
-                            for state in range(20)))
-
     def test_pairs(self):
-        self.assertIs(is_least(self.DEAF), True)
+        self.assertIs(is_least(DEAF), True)
         for many, start in [(19, True), (20, False), (20, True)]:
             self.assertIs(is_least(turning(many, "ab", start=start)), True)
         everything = ((("", "", 0), ("", "", 0)), "")
-        self.assertEqual(behind(turning(20, "ab"), self.DEAF), ("ab", "", (everything,)))
-        self.assertEqual(len(behind(turning(19, "ab", start=True), self.DEAF)[2]), 2)
+        self.assertEqual(behind(turning(20, "ab"), DEAF), ("ab", "", (everything,)))
+        self.assertEqual(len(behind(turning(19, "ab", start=True), DEAF)[2]), 2)
         for function in WITH_TWO:
-            self.assertEqual(limit(function, turning(20, "ab", start=True), self.DEAF), 400)
+            self.assertEqual(limit(function, turning(20, "ab", start=True), DEAF), 400)
 
     def test_pairs_that_are_not_met_do_not_count(self):
         # It does no "b", so the other one stays in its first state.
         one = ("ab", "", tuple(((("", "", (state + 1) % 60), ("", "", state)), "" if state else None)
                                for state in range(60)))
         self.assertIs(is_least(one), True)
-        self.assertEqual(behind(one, self.DEAF), one)
+        self.assertEqual(behind(one, DEAF), one)
         # Nor are those that no text leads to since the other one breaks off.
-        breaks = ("ab", "", (((("a", "", 0), None), ""), *self.DEAF[2][1:]))
+        breaks = ("ab", "", (((("a", "", 0), None), ""), *DEAF[2][1:]))
         self.assertEqual(len(behind(turning(20, "ab", start=True), breaks)[2]), 20)
 
     def test_pairs_behind_which_none_has_an_outcome_count(self):
         # The other one breaks off at each last of the one ahead of it.
-        deaf = ("abc", "", tuple(((*moves, None), last) for moves, last in self.DEAF[2]))
+        deaf = ("abc", "", tuple(((*moves, None), last) for moves, last in DEAF[2]))
         for many, start in [(20, False), (20, True)]:
             signs, first, states = turning(many, "abc", start=start)
             one = (signs, first, tuple((moves, last + "c") for moves, last in states))
@@ -288,7 +340,7 @@ class PairsTest(unittest.TestCase):
     def test_states_of_the_least_form(self):
         for first, second, start, many in [(6, 10, False, 60), (6, 10, True, 61), (5, 12, False, 60), (7, 9, False, 63),
                                            (59, 1, True, 60), (20, 3, True, 61)]:
-            one, other = turning(first, "abc", start=start), self.round_by_b(second)
+            one, other = turning(first, "abc", start=start), round_by_b(second)
             if many == 60:
                 self.assertEqual(len(behind(one, other)[2]), 60)
             else:
@@ -302,12 +354,6 @@ class PairsTest(unittest.TestCase):
                                    for state in range(many)))
             self.assertIs(is_least(one), True)
             self.assertEqual([limit(function, one) for function in ALONE], [told] * 5)
-
-    def round_by_b(self, many):
-        """An expander that goes round by "b", and copies "a" and "c"; one state has another last."""
-        states = tuple(((("a", "", state), ("", "", (state + 1) % many), ("c", "", state)), "a" if state else "")
-                       for state in range(many))
-        return "abc", "", states
 
 
 class WordsTest(unittest.TestCase):
@@ -415,8 +461,8 @@ class WordsTest(unittest.TestCase):
         one = turning(20, "ab", start=True)
         long = (one[0], one[1], one[2] + (tuple((tuple((w, b, 21) for w, b, _ in far[0]), None)),))
         self.assertTrue(is_expander(long))
-        self.assertEqual(limit(behind, one, PairsTest.DEAF), 400)
-        self.assertEqual(limit(behind, long, PairsTest.DEAF), 2000)
+        self.assertEqual(limit(behind, one, DEAF), 400)
+        self.assertEqual(limit(behind, long, DEAF), 2000)
 
 
 def words_of(expander):

@@ -9,7 +9,7 @@ from pathlib import Path
 
 from rescans import alike, calls, growth, least, origins, rows, runs, sources, texts, windows
 from rescans.console import Console
-from rescans.errors import NoOutcome, NoText
+from rescans.errors import Mismatch, NoCall, NoExpander, NoName, NoOutcome, NoText
 from rescans.expanders import copier
 from rescans.live import Live
 from plainly import drawn, texts as all_texts
@@ -174,6 +174,42 @@ class LimitTest(unittest.TestCase):
                       and not node.name.startswith("_") and node.args.args[0].arg in ("expander", "one", "row")
                       and takers & {part.id for part in ast.walk(node) if isinstance(part, ast.Name)}}
         self.assertEqual(names, {name for name in LIMITED if "." not in name})
+
+    def test_all_other_errors_come_ahead(self):
+        for long in (of_size(2001), settles(2001)):
+            for error, cases in self.other_errors(long).items():
+                for number, case in enumerate(cases):
+                    with self.subTest(error=error, number=number):
+                        self.assertRaises(error, case)
+
+    def other_errors(self, long):
+        """What raises an error other than TooMany for an expander with a too long value: error -> functions."""
+        other = copier("abc")
+        pairs = [alike.alike, alike.ahead, alike.apart, rows.behind, rows.change_places,
+                 lambda one, two: alike.shows_alike(one, two, {}), lambda one, two: rows.in_row([one, two]),
+                 lambda one, two: rows.in_row([long, one, two]), lambda one, two: rows.in_row([one, one, two, long])]
+        texts_of = [calls.outcome, sources.source, sources.how_many, sources.no_source,
+                    lambda one, text: sources.shows_no_source(one, text, ()),
+                    lambda one, text: next(sources.sources(one, text)),
+                    lambda one, text: growth.longest(one, text), origins.origins, origins.steps, origins.held,
+                    lambda one, text: Live(one, "ab").state_at(text)]
+        console = Console()
+        console.execute("keep x : " + texts.format_expander(long))
+        console.execute("keep y : " + texts.format_expander(other))
+        lines = {NoCall: ["call x 2 a", "call x 0 c", "call x 0 ab"],
+                 Mismatch: ["alike x y", "alike y x", "behind z x y"],
+                 NoText: ["run x : c", "source x : " + "a" * 201, "origins x : cab"],
+                 NoName: ["alike x z", "behind x x z", "behind x z x"]}
+        told = {
+            NoCall: [lambda: calls.value(long, 9, "a"), lambda: calls.thread(long, 0, "c")],
+            Mismatch: [lambda f=f, row=row: f(*row) for f in pairs for row in ((long, other), (other, long))],
+            NoExpander: [lambda f=f, row=row: f(*row) for f in pairs for row in ((long, None), (None, long))],
+            NoText: [lambda f=f, text=text: f(long, text) for f in texts_of for text in ("c", None, 201, "a" * 201)],
+            NoName: [],
+        }
+        for error, commands in lines.items():
+            told[error].extend(lambda line=line: console.execute(line) for line in commands)
+        return told
 
     def test_first_what_is_done_and_last_count_together(self):
         for many in (1999, 2000, 2001):
